@@ -1,0 +1,1 @@
+"""A pinball table, layer b: rows of contacts in, events of switches out."""
